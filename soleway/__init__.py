@@ -1,0 +1,1 @@
+"""Soleway: forms with counts, read in one way only."""
