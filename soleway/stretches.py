@@ -55,7 +55,7 @@ def _carry_round(here, part_ways):
                 here[end] = here.get(end, 0) + many * more
 
 
-def _made(piece, stretches):
+def made(piece, stretches):
     """The reading of a piece, of pairs of a part's number and its reading."""
     if piece[0] == "sign":
         return ("leaf",)
@@ -178,5 +178,5 @@ class Stretches:
             rows = [()]
             for k, part, start, end in split:
                 rows = [(*row, (k, reading)) for row in rows for reading in told[part][(start, end)]][:most]
-            readings.extend([_made(self.pieces[number][0], row) for row in rows])
+            readings.extend([made(self.pieces[number][0], row) for row in rows])
         return readings[:most]

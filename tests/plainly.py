@@ -81,3 +81,82 @@ def small_forms():
     told += [("times", ("times", part, *inner), *outer) for part in (A, ("pick", (A, A)), ("row", (A, B)))
              for inner in [(0, 1), (1, 2), (2, 2), (0, None), (2, None)] for outer in [(2, 2), (0, 2), (2, None)]]
     return told
+
+
+def signs_read(form, reading, place=(), around=()):
+    """For each sign of a reading its leaf, and the times around it with the numbers of their rounds.
+
+    The times are told from the outermost inwards, as triples: its place, the number of its round, and
+    that number as stands have it.
+    """
+    if reading is None:
+        return []
+    kind = form[0]
+    if kind == "sign":
+        return [(place, around)]
+    if kind == "row":
+        return [told for k, inner in reading[1] for told in signs_read(form[1][k], inner, (*place, k), around)]
+    if kind == "pick":
+        return signs_read(form[1][reading[1]], reading[2], (*place, reading[1]), around)
+    told = []
+    for number, inner in enumerate(reading[1], 1):
+        here = (place, number, told_round(form, number))
+        told += signs_read(form[1], inner, (*place, 0), (*around, here))
+    return told
+
+
+def told_round(form, number):
+    """The number of a times' round as stands have it."""
+    _, part, low, high = form
+    if high is not None:
+        return number
+    return 1 if may_nothing(part) else min(number, max(1, low))
+
+
+def run_of(form, reading):
+    """The run that a reading is: a tuple of pairs of a step and the stand behind it."""
+    told = []
+    ahead = ()
+    for leaf, around in signs_read(form, reading):
+        begun = [here[0] for there, here in zip(ahead, around) if there[0] == here[0] and there[1] != here[1]]
+        told.append(((leaf, begun[0] if begun else None), (leaf, tuple(here[2] for here in around))))
+        ahead = around
+    return tuple(told)
+
+
+def shortlex(rows):
+    """Rows, the shorter first, of equally long ones as Python sorts tuples."""
+    return sorted(rows, key=lambda row: (len(row), row))
+
+
+def leaves_with_rounds(form, place=(), most=()):
+    """The leaves of a form, each with the most that each times around it counts to."""
+    kind = form[0]
+    if kind == "sign":
+        return [(place, most)]
+    if kind == "times":
+        high = form[3] if form[3] is not None else told_round(form, 100)
+        return leaves_with_rounds(form[1], (*place, 0), (*most, high))
+    return [told for k, part in enumerate(form[1]) for told in leaves_with_rounds(part, (*place, k), most)]
+
+
+def all_stands(form):
+    """None, and each leaf with each number of rounds that it may have."""
+    told = [None]
+    for leaf, most in leaves_with_rounds(form):
+        told += [(leaf, rounds) for rounds in product(*[range(1, high + 1) for high in most])]
+    return told
+
+
+def counted_forms():
+    """Forms with times within times, three of them also, and rounds that lack or may be without signs."""
+    counts = [(0, 1), (1, 2), (2, 2), (2, None), (0, None), (1, 3)]
+    told = [("times", ("times", ("times", A, *inner), *between), *outer)
+            for inner in counts[:4] for between in counts[1:5] for outer in counts[1:5]]
+    told += [("times", ("row", (("times", A, *inner), ("times", B, 0, 1))), *outer)
+             for inner in counts for outer in counts]
+    told += [("times", ("pick", (("times", A, *inner), ("row", (A, B)), B)), *outer)
+             for inner in counts for outer in counts]
+    told += [("times", ("row", (("times", ("row", (A, ("times", B, *inner))), *between), A)), *outer)
+             for inner in counts[:4] for between in counts[:4] for outer in counts[:4]]
+    return told

@@ -50,6 +50,9 @@ class Package(unittest.TestCase):
                 if isinstance(node, ast.Constant):
                     self.assertNotIsInstance(node.value, (float, complex, bytes), (name, node.lineno))
                 self.assertNotIsInstance(node, (ast.Lambda, ast.Set, ast.Global, ast.Div), name)
+                if isinstance(node, ast.Subscript):
+                    stars = [inner for inner in ast.walk(node.slice) if isinstance(inner, ast.Starred)]
+                    self.assertEqual(stars, [], (name, node.lineno))
 
     def test_names(self):
         for name, tree in self.trees():
