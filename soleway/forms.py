@@ -3,13 +3,13 @@
 from soleway.laid import emptiness, laid, parts_of
 
 MOST_PARTS = 8
+PLAIN_COUNTS = ((0, 1), (0, None), (1, None))
 _MOST_LETTERS = 6
 _MOST_COUNT = 12
 _MOST_PIECES = 60
 _MOST_DEEP = 12
 _MOST_TIMES = 3
 _MOST_SIGNS = 6
-_PLAIN_COUNTS = ((0, 1), (0, None), (1, None))
 
 
 def is_whole(thing):
@@ -123,7 +123,7 @@ def may_nothing(form):
 def is_plain(form):
     """Whether each times of a form is 0..1, 0.. or 1.. of its part."""
     counts = [(piece[2], piece[3]) for piece, _ in laid(form) if piece[0] == "times"]
-    return all(pair in _PLAIN_COUNTS for pair in counts)
+    return all(pair in PLAIN_COUNTS for pair in counts)
 
 
 def signs_of(form):

@@ -15,6 +15,11 @@ def parts_of(form):
     return form[1]
 
 
+def row_of(forms):
+    """The row of forms; of one alone it is that form."""
+    return forms[0] if len(forms) == 1 else ("row", tuple(forms))
+
+
 def laid(form):
     """A list of pairs: each piece, and a list of the numbers of its parts."""
     told = []

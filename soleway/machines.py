@@ -66,17 +66,26 @@ def runs(machine, row):
 
 def least(form):
     """The least machine of a form."""
-    reached = Reached(form)
+    return least_of(machine_of(Reached(form)))
+
+
+def machine_of(reached):
+    """The machine whose rooms are the lists of stands behind the rows of a form."""
     rooms = [(reached.list_ends(at), tuple(leads.items())) for at, leads in enumerate(reached.leads)]
-    return least_of(tuple(rooms))
+    return tuple(rooms)
 
 
 def least_of(machine):
     """The least machine of a machine."""
+    return least_from(machine, 0)
+
+
+def least_from(machine, first):
+    """The least machine of the rows that lead from a room to one that ends; rooms not come to are left out."""
     kinds = _kinds(machine)
     # One room of each kind, in the order of the least rows that lead to the kinds.
-    rooms = [0]
-    numbers = {kinds[0]: 0}
+    rooms = [first]
+    numbers = {kinds[first]: 0}
     at = 0
     while at < len(rooms):
         for _, behind in machine[rooms[at]][1]:

@@ -28,21 +28,22 @@ class Reached:
     def _leads_from(self, at):
         """For each sign that may come behind a list of stands the number of the list that it leads to."""
         told = {}
-        for sign, members in self._lists_behind(self.list_at(at)).items():
+        lists = self.lists_behind(self.list_at(at))
+        if len(self.stands) - 1 > _MOST:
+            raise TooWide("more than four hundred stands are behind rows")
+        for sign, members in lists.items():
             self.search.put(at, sign, [members])
             told[sign] = self.search.seen[members]
         if len(self.search.groups) > _MOST:
             raise TooWide("more than four hundred lists of stands are behind rows")
         return told
 
-    def _lists_behind(self, members):
+    def lists_behind(self, members):
         """For each sign that may come behind a list of stands the list that it leads to, signs rising."""
         told = {}
         for number in members:
             for sign, ways in self.ways_from(number).items():
                 told.setdefault(sign, {}).update({behind: True for _, behind in ways})
-            if len(self.stands) - 1 > _MOST:
-                raise TooWide("more than four hundred stands are behind rows")
         return {sign: tuple(sorted(told[sign])) for sign in sorted(told)}
 
     def list_at(self, at):
@@ -51,7 +52,11 @@ class Reached:
 
     def list_ends(self, at):
         """Whether a stand of a list may end."""
-        return any([self.ends_at(number) for number in self.list_at(at)])
+        return self.one_ends(self.list_at(at))
+
+    def one_ends(self, members):
+        """Whether one of these stands may end."""
+        return any([self.ends_at(number) for number in members])
 
     def list_behind(self, row):
         """The number of the list of stands behind a row, or None where there are none."""
@@ -76,6 +81,11 @@ class Reached:
     def told(self, number):
         """The stand of a number as the asker has it."""
         return self.walk.told_stand(self.stands[number])
+
+    def told_list(self, at):
+        """The list of stands of a number as the asker has it: a tuple, sorted."""
+        stands = sorted([self.stands[number] for number in self.list_at(at)])
+        return tuple([self.walk.told_stand(stand) for stand in stands])
 
     def ways_from(self, number):
         """The signs that may come behind a stand, rising, each with pairs of a step and the stand behind it."""

@@ -101,3 +101,49 @@ def is_single_paper_plainly(form, paper):
                     if triple not in paper and (triple[1], triple[0], triple[2]) not in paper:
                         return False
     return True
+
+
+def bent_lists(told):
+    """Things that are nearly a tuple of stands, sorted, each once, but none."""
+    bent = [list(told), (*told, told) if told else [], None, "", 0, True, (*told, ()), ((),), (1,), ("a",)]
+    for at, stand in enumerate(told):
+        bent += [told[:at] + (stand,) + told[at:], (None, *told), (*told, None), (*told, *told), stand]
+        bent += [told[:at] + (other,) + told[at + 1:] for other in bent_stands(stand) if other not in (None, ())]
+    if len(told) > 1:
+        bent += [told[::-1], told[1:] + told[:1]]
+    return bent
+
+
+def leads_of(form, members):
+    """For each sign by which steps lead on from stands the tuple of all stands to which they lead."""
+    told = {}
+    for sign in signs_of(form):
+        found = {behind(form, stand, step) for stand in members for step in steps(form, stand, sign)}
+        if found:
+            told[sign] = tuple(sorted(found))
+    return told
+
+
+def is_lists_paper_plainly(one, other, paper, mutual):
+    """What the document says of papers of alike, or else of within, word for word."""
+    for item in paper:
+        if type(item) is not tuple or len(item) != 2:
+            return False
+        for form, told in zip((one, other), item):
+            if type(told) is not tuple or not are_stands(form, told):
+                return False
+            if told != (None,) and (None in told or list(told) != sorted(set(told))):
+                return False
+    if ((None,), (None,)) not in paper:
+        return False
+    for here, beside in paper:
+        ends = any(may_end(one, stand) for stand in here)
+        ending = any(may_end(other, stand) for stand in beside)
+        leads, leading = leads_of(one, here), leads_of(other, beside)
+        if ends and not ending or not leads.keys() <= leading.keys():
+            return False
+        if mutual and (ends != ending or leads.keys() != leading.keys()):
+            return False
+        if any((leads[sign], leading[sign]) not in paper for sign in leads):
+            return False
+    return True

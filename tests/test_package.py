@@ -9,7 +9,7 @@ import soleway
 
 FOLDER = Path(soleway.__file__).parent
 STATEMENTS = (ast.FunctionDef, ast.ClassDef, ast.Return, ast.Assign, ast.AugAssign, ast.For, ast.While, ast.If,
-              ast.Raise, ast.ImportFrom, ast.Expr, ast.Pass, ast.Break, ast.Continue)
+              ast.Raise, ast.Try, ast.Delete, ast.ImportFrom, ast.Expr, ast.Pass, ast.Break, ast.Continue)
 BUILTINS = {"len", "range", "enumerate", "zip", "min", "max", "sum", "abs", "sorted", "reversed", "int", "str", "bool",
             "list", "tuple", "dict", "set", "isinstance", "any", "all", "super", "ValueError"}
 
@@ -58,7 +58,7 @@ class Package(unittest.TestCase):
         for name, tree in self.trees():
             bound = set()
             for node in ast.walk(tree):
-                if isinstance(node, (ast.FunctionDef, ast.ClassDef)):
+                if isinstance(node, (ast.FunctionDef, ast.ClassDef, ast.ExceptHandler)):
                     bound.add(node.name)
                 if isinstance(node, ast.ImportFrom):
                     bound.update(alias.name for alias in node.names)
