@@ -60,7 +60,8 @@ class Sides:
             ending, leading = self.other.come_to(beside)
             if not self._agree(ends, ending):
                 return self.search.row_to(at)
-            for sign in sorted(set([*leads, *leading])) if self.mutual else list(leads):
+            signs = sorted(set(list(leads) + list(leading))) if self.mutual else list(leads)
+            for sign in signs:
                 self.search.put(at, sign, [(leads.get(sign), leading.get(sign))])
             at += 1
         return None

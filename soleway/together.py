@@ -14,7 +14,7 @@ def together(one, other, as_both):
         here, beside = pairs[len(rooms)]
         ends, leads = _room(one, here)
         ending, leading = _room(other, beside)
-        signs = [sign for sign in leads if sign in leading] if as_both else sorted(set([*leads, *leading]))
+        signs = [sign for sign in leads if sign in leading] if as_both else sorted(set(list(leads) + list(leading)))
         steps = []
         for sign in signs:
             pair = (leads.get(sign), leading.get(sign))
